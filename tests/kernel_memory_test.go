@@ -68,6 +68,7 @@ func checkStepMemory(t *testing.T, name string, plainKernel impl.Kernel, plainSt
 }
 
 func TestStepsWriteIntoNoArgument(t *testing.T) {
+	t.Parallel()
 	for name, k := range memoryKernels() {
 		for _, s := range memorySteps() {
 			checkStepMemory(t, name, k, s)

@@ -50,6 +50,7 @@ func checkRunMemory(t *testing.T, name string, plainKernel impl.Kernel, plainLis
 }
 
 func TestRunsWriteIntoNoArgument(t *testing.T) {
+	t.Parallel()
 	high := label(1, impl.Cat{Id: 1001, Level: 2})
 	for name, k := range memoryKernels() {
 		for _, list := range memoryRuns() {

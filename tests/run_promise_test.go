@@ -96,6 +96,7 @@ func checkRunByWords(t *testing.T, k impl.Kernel, list []impl.Step, o impl.Label
 }
 
 func TestRunsByTheDocumentsWords(t *testing.T) {
+	t.Parallel()
 	r := rand.New(rand.NewSource(70))
 	quiet, first, later := 0, 0, 0
 	for i := range 900 {
@@ -200,6 +201,7 @@ func checkLeftOut(t *testing.T, k impl.Kernel, list []impl.Step, o impl.Label) i
 }
 
 func TestStepsThatAreNotFeltMayBeLeftOut(t *testing.T) {
+	t.Parallel()
 	r := rand.New(rand.NewSource(72))
 	runs, gone := 0, 0
 	for range 900 {
@@ -218,6 +220,7 @@ func TestStepsThatAreNotFeltMayBeLeftOut(t *testing.T) {
 
 // From a new kernel on, threads make what the others then lean on.
 func TestRunsFromANewKernelOn(t *testing.T) {
+	t.Parallel()
 	r := rand.New(rand.NewSource(73))
 	runs := 0
 	for range 400 {
@@ -271,6 +274,7 @@ func stepOfItself(r *rand.Rand, k impl.Kernel) impl.Step {
 
 // Owning less or standing higher lets no thread be felt, owning more or standing lower keeps none from it.
 func TestWhoComesToBeFelt(t *testing.T) {
+	t.Parallel()
 	r := rand.New(rand.NewSource(74))
 	comes, goes := map[int64]int{}, map[int64]int{}
 	for range 20000 {

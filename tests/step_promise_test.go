@@ -224,6 +224,7 @@ func eachSomeStep(t *testing.T, seed int64, check func(impl.Kernel, impl.Step, i
 }
 
 func TestStepsByTheDocumentsWords(t *testing.T) {
+	t.Parallel()
 	eachSomeStep(t, 30, func(k impl.Kernel, s impl.Step, then impl.Kernel, code int64, told string) {
 		want, text := k, ""
 		wanted := codeByWords(k, s)
@@ -237,6 +238,7 @@ func TestStepsByTheDocumentsWords(t *testing.T) {
 }
 
 func TestAStepLeavesARightKernel(t *testing.T) {
+	t.Parallel()
 	eachSomeStep(t, 31, func(k impl.Kernel, s impl.Step, then impl.Kernel, code int64, told string) {
 		if !impl.KernelOk(then) {
 			t.Errorf("%v told %d and left\n%s", s, code, kernelText(then))
@@ -302,6 +304,7 @@ func frame(o impl.Object) string {
 }
 
 func TestAThreadChangesOnlyWhatItMay(t *testing.T) {
+	t.Parallel()
 	eachSomeStep(t, 34, func(k impl.Kernel, s impl.Step, then impl.Kernel, code int64, told string) {
 		x, _ := threadIn(k, s.Thread)
 		for _, o := range k.Objects {

@@ -84,6 +84,7 @@ func TestDataThatAreNotSeenAreNothingToAView(t *testing.T) {
 
 // Promise 4, the last sentence.
 func TestAThreadThatIsNotFeltChangesNoView(t *testing.T) {
+	t.Parallel()
 	r := rand.New(rand.NewSource(62))
 	done := map[int64]int{}
 	for range 6000 {
